@@ -1,0 +1,1 @@
+"""Flour blending in whole kilograms."""
