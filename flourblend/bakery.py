@@ -3,7 +3,9 @@
 Each operation answers a list of whole numbers; an error is a list with its code alone.
 """
 
-from flourblend.blends import cost_of, find_cheapest, is_available, is_valid
+from flourblend.averages import average
+from flourblend.blends import (ash_sum, available_blends, cost_of, find_cheapest, find_obstacle, greatest_weight,
+                               is_available, is_valid, strength_sum, valid_blends)
 from flourblend.codes import NO_SUCH_BIN, NOT_VALID, OUT_OF_RANGE, TOO_LITTLE_FLOUR, TOO_MANY_BINS
 
 MOST_KILOGRAMS = 30
@@ -23,6 +25,10 @@ def is_amount(kilograms):
 
 def is_ash(ash):
     return 0 <= ash <= MOST_ASH
+
+
+def is_weight(n):
+    return 1 <= n <= MOST_KILOGRAMS
 
 
 class Bin:
@@ -81,7 +87,7 @@ class Bakery:
         return [removed]
 
     def set_request(self, n, min_strength, max_strength, max_ash):
-        if not 1 <= n <= MOST_KILOGRAMS:
+        if not is_weight(n):
             return [OUT_OF_RANGE]
         if not (0 <= min_strength <= max_strength <= MOST_STRENGTH and is_ash(max_ash)):
             return [OUT_OF_RANGE]
@@ -89,10 +95,7 @@ class Bakery:
         return [0]
 
     def cheapest_blend(self):
-        blend = find_cheapest(self.bins, self.request)
-        if blend is None:
-            return [NOT_VALID]
-        return [cost_of(self.bins, blend)] + blend
+        return self.cheapest_from(self.bins)
 
     def make_cheapest_blend(self):
         blend = find_cheapest(self.bins, self.request)
@@ -108,6 +111,70 @@ class Bakery:
         if not is_valid(self.bins, self.request, blend):
             return [NOT_VALID]
         return [self.take_out(blend)]
+
+    def check_blend(self, blend):
+        if not self.has_form(blend):
+            return [OUT_OF_RANGE]
+        bins = self.bins
+        valid = 1 if is_valid(bins, self.request, blend) else 0
+        weight = sum(blend)
+        strength = average(strength_sum(bins, blend), weight)
+        ash = average(ash_sum(bins, blend), weight)
+        return [valid, weight] + strength + ash + [cost_of(bins, blend)]
+
+    def count_blends(self):
+        available = available_blends(self.bins, self.request.n)
+        return [len(available), len(valid_blends(self.bins, self.request))]
+
+    def greatest_amount(self):
+        return [greatest_weight(self.bins, self.request, MOST_KILOGRAMS)]
+
+    def extreme_averages(self, n):
+        if not is_weight(n):
+            return [OUT_OF_RANGE]
+        listed = available_blends(self.bins, n)
+        if len(listed) == 0:
+            return [NOT_VALID]
+        strengths = [strength_sum(self.bins, blend) for blend in listed]
+        ashes = [ash_sum(self.bins, blend) for blend in listed]
+        return [0] + average(min(strengths), n) + average(max(strengths), n) + average(min(ashes), n)
+
+    def obstacle(self):
+        return [find_obstacle(self.bins, self.request)]
+
+    def cheapest_if_price(self, i, price):
+        if not self.has_bin(i):
+            return [NO_SUCH_BIN]
+        if not is_price(price):
+            return [OUT_OF_RANGE]
+        one = self.bins[i]
+        return self.cheapest_with(i, Bin(one.kilograms, one.strength, one.ash, price))
+
+    def cheapest_without(self, i):
+        if not self.has_bin(i):
+            return [NO_SUCH_BIN]
+        one = self.bins[i]
+        return self.cheapest_with(i, Bin(0, one.strength, one.ash, one.price))
+
+    def describe(self):
+        answer = [len(self.bins)]
+        for one in self.bins:
+            answer.extend([one.kilograms, one.strength, one.ash, one.price])
+        request = self.request
+        return answer + [request.n, request.min_strength, request.max_strength, request.max_ash, self.spent]
+
+    def cheapest_from(self, bins):
+        """Answer the cost and the cheapest blend from these bins, or that no blend is valid."""
+        blend = find_cheapest(bins, self.request)
+        if blend is None:
+            return [NOT_VALID]
+        return [cost_of(bins, blend)] + blend
+
+    def cheapest_with(self, i, other):
+        """Answer what the cheapest blend would be with another bin in the place of bin i."""
+        bins = list(self.bins)
+        bins[i] = other
+        return self.cheapest_from(bins)
 
     def has_bin(self, i):
         return 0 <= i < len(self.bins)

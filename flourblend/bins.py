@@ -12,6 +12,13 @@ SET_REQUEST = 5
 CHEAPEST_BLEND = 6
 MAKE_CHEAPEST_BLEND = 7
 MAKE_BLEND = 8
+CHECK_BLEND = 9
+COUNT_BLENDS = 10
+GREATEST_AMOUNT = 11
+EXTREME_AVERAGES = 12
+OBSTACLE = 13
+CHEAPEST_IF_PRICE = 14
+CHEAPEST_WITHOUT = 15
 
 # How many whole numbers each of the calls 0 to 16 brings, its row not counted.
 NUMBERS_OF_CALL = (0, 4, 2, 2, 1, 4, 0, 0, 0, 0, 0, 0, 1, 0, 2, 1, 0)
@@ -62,13 +69,32 @@ def find_or_make(bakery, call, row):
     return bakery.make_blend(row)
 
 
+def tell(bakery, call, numbers, row):
+    """Answer one of the calls 9 to 16."""
+    if call == CHECK_BLEND:
+        return bakery.check_blend(row)
+    if call == COUNT_BLENDS:
+        return bakery.count_blends()
+    if call == GREATEST_AMOUNT:
+        return bakery.greatest_amount()
+    if call == EXTREME_AVERAGES:
+        return bakery.extreme_averages(numbers[0])
+    if call == OBSTACLE:
+        return bakery.obstacle()
+    if call == CHEAPEST_IF_PRICE:
+        return bakery.cheapest_if_price(numbers[0], numbers[1])
+    if call == CHEAPEST_WITHOUT:
+        return bakery.cheapest_without(numbers[0])
+    return bakery.describe()
+
+
 def answer_of(bakery, call, numbers, row):
     """Answer a call, other than create, on an instance."""
     if call <= SET_REQUEST:
         return change_stock(bakery, call, numbers)
     if call <= MAKE_BLEND:
         return find_or_make(bakery, call, row)
-    raise NotImplementedError(f"call {call} is not built yet")
+    return tell(bakery, call, numbers, row)
 
 
 def answers(calls):

@@ -2,13 +2,11 @@
 
 import unittest
 
-from tests.helper import (LEAST, MOST, add_bin, add_flour, ask, cheapest_blend, create, empty_bin, last, make_blend,
-                          set_price, set_request, shop)
+from tests.helper import (FAR_OUT, LEAST, MOST, NO_BIN_OF_TWO, add_bin, add_flour, ask, cheapest_blend, create,
+                          empty_bin, last, make_blend, set_price, set_request, shop)
 
-FAR_OUT = (LEAST, LEAST + 1, MOST - 1, MOST)
 TWO_BINS = [(10, 300, 5, 3), (8, 200, 9, 1)]
 FULL = [(1, 1, 1, 1)] * 4
-NO_BIN_OF_TWO = (-1, -2, 2, 3, 4) + FAR_OUT
 
 
 class AddBin(unittest.TestCase):

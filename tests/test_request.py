@@ -2,9 +2,7 @@
 
 import unittest
 
-from tests.helper import LEAST, MOST, ask, cheapest_blend, create, last, set_request, shop
-
-FAR_OUT = (LEAST, LEAST + 1, MOST - 1, MOST)
+from tests.helper import FAR_OUT, LEAST, MOST, ask, cheapest_blend, create, last, set_request, shop
 
 
 class SetRequest(unittest.TestCase):

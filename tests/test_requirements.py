@@ -1,51 +1,45 @@
-"""Promises 4, 5 and 6 of the document, as far as they speak of the operations 0 to 8."""
+"""Promises 4, 5 and 6 of the document. Promise 1 is in test_cheapest, 2 in test_obstacle, 3 in test_averages."""
 
 import random
 import unittest
 
 from flourblend.bakery import Bakery
-from tests.helper import (LEAST, MOST, add_bin, add_flour, ask, cheapest_blend, empty_bin, last, make_blend,
-                          make_cheapest_blend, probe, random_shop, set_price, set_request, shop, total)
+from tests.helper import (LEAST, MOST, add_bin, add_flour, ask, cheapest_blend, cheapest_if_price, cheapest_without,
+                          check_blend, count_blends, describe, empty_bin, extreme_averages, greatest_amount, last,
+                          make_blend, make_cheapest_blend, obstacle, random_shop, set_price, set_request, shop, total)
 
 BINS = [(10, 300, 5, 3), (8, 200, 9, 1)]
 FULL_BINS = BINS + [(0, 100, 1, 2), (30, 999, 999, 99)]
 REQUEST = (6, 250, 400, 7)
 
+# Calls on an instance with FULL_BINS and REQUEST, with a blend made and its flour filled up again.
+REFUSED = [
+    (add_bin(31, 300, 5, 3), -22), (add_bin(10, 0, 5, 3), -22), (add_bin(10, 300, MOST, 3), -22),
+    (add_bin(10, 300, 5, LEAST), -22), (add_bin(10, 300, 5, 3), -28),
+    (add_flour(4, 1), -2), (add_flour(-1, 1), -2), (add_flour(0, 0), -22), (add_flour(0, 21), -22),
+    (add_flour(1, -8), -22), (add_flour(3, 1), -22), (add_flour(0, LEAST), -22),
+    (set_price(4, 5), -2), (set_price(-1, 5), -2), (set_price(0, 0), -22), (set_price(0, 100), -22),
+    (empty_bin(4), -2), (empty_bin(-1), -2),
+    (set_request(0, 0, 999, 999), -22), (set_request(6, 401, 400, 7), -22),
+    (set_request(7, 0, 999, 1000), -22), (set_request(7, -1, 999, 999), -22),
+    (make_blend([3, 3]), -22), (make_blend([3, 3, 0, 31]), -22), (make_blend([]), -22), (make_blend([1] * 70), -22),
+    (make_blend([0, 0, 6, 0]), -6), (make_blend([2, 4, 0, 0]), -33), (make_blend([3, 3, 1, 0]), -6),
+    (make_blend([3, 2, 0, 0]), -33),
+    (check_blend([3, 3]), -22), (check_blend([3, 3, 0, 31]), -22), (check_blend([]), -22),
+    (check_blend([-1] * 70), -22),
+    (extreme_averages(0), -22), (extreme_averages(31), -22), (extreme_averages(MOST), -22),
+    (cheapest_if_price(4, 5), -2), (cheapest_if_price(-1, 5), -2), (cheapest_if_price(0, 0), -22),
+    (cheapest_if_price(1, 100), -22), (cheapest_without(4), -2), (cheapest_without(LEAST), -2),
+    (cheapest_without(0), -33),
+]
 
-def bakery_with(bins, request):
-    bakery = Bakery()
-    for one in bins:
-        bakery.add_bin(*one)
-    bakery.set_request(*request)
-    return bakery
-
-
-def state(bakery):
-    """All that the instance holds, told in numbers."""
-    request = bakery.request
-    return ([(one.kilograms, one.strength, one.ash, one.price) for one in bakery.bins],
-            (request.n, request.min_strength, request.max_strength, request.max_ash), bakery.spent)
-
-
-def refused_calls():
-    """Calls on an instance with FULL_BINS and REQUEST that are refused: name, arguments, code."""
-    return [
-        ("add_bin", (31, 300, 5, 3), -22), ("add_bin", (10, 0, 5, 3), -22), ("add_bin", (10, 300, MOST, 3), -22),
-        ("add_bin", (10, 300, 5, LEAST), -22), ("add_bin", (10, 300, 5, 3), -28),
-        ("add_flour", (4, 1), -2), ("add_flour", (-1, 1), -2), ("add_flour", (0, 0), -22), ("add_flour", (0, 21), -22),
-        ("add_flour", (1, -8), -22), ("add_flour", (3, 1), -22), ("add_flour", (0, LEAST), -22),
-        ("set_price", (4, 5), -2), ("set_price", (-1, 5), -2), ("set_price", (0, 0), -22), ("set_price", (0, 100), -22),
-        ("empty_bin", (4,), -2), ("empty_bin", (-1,), -2),
-        ("set_request", (0, 0, 999, 999), -22), ("set_request", (6, 401, 400, 7), -22),
-        ("set_request", (7, 0, 999, 1000), -22), ("set_request", (7, -1, 999, 999), -22),
-        ("make_blend", ([3, 3],), -22), ("make_blend", ([3, 3, 0, 31],), -22), ("make_blend", ([],), -22),
-        ("make_blend", ([1] * 70,), -22), ("make_blend", ([0, 0, 6, 0],), -6), ("make_blend", ([2, 4, 0, 0],), -33),
-        ("make_blend", ([3, 3, 1, 0],), -6), ("make_blend", ([3, 2, 0, 0],), -33),
-    ]
-
-
-CALLS = {"add_bin": add_bin, "add_flour": add_flour, "set_price": set_price, "empty_bin": empty_bin,
-         "set_request": set_request, "make_blend": make_blend}
+# The operations 6 and 9 to 16, with what they are asked for on an instance with four bins.
+QUERIES = [
+    cheapest_blend(), check_blend([3, 3, 0, 0]), check_blend([2, 4, 0, 0]), check_blend([0] * 4),
+    check_blend([30] * 4), count_blends(), greatest_amount(), extreme_averages(1), extreme_averages(12),
+    extreme_averages(30), obstacle(), cheapest_if_price(1, 4), cheapest_if_price(0, 99), cheapest_if_price(3, 1),
+    cheapest_without(0), cheapest_without(1), cheapest_without(3), describe(),
+]
 
 
 class Promise4(unittest.TestCase):
@@ -77,98 +71,111 @@ class Promise4(unittest.TestCase):
 class Promise5(unittest.TestCase):
     """Making a blend removes exactly its kilograms and increases `spent` by its cost."""
 
-    def check(self, before, after, blend, cost):
-        bins, request, spent = before
-        left = [(one[0] - taken,) + one[1:] for one, taken in zip(bins, blend)]
-        self.assertEqual(after, (left, request, spent + cost))
+    def check(self, bins, before, after, blend, cost):
+        """Compare two answers of describe, from before and after the blend was made."""
+        wanted = list(before)
+        for i, taken in enumerate(blend):
+            wanted[1 + 4 * i] -= taken
+        wanted[-1] += cost
+        self.assertEqual(after, wanted)
         self.assertEqual(cost, total(bins, blend, 3))
 
     def test_make_cheapest_blend(self):
         chance = random.Random(5)
         made = 0
         for _ in range(200):
-            bakery = bakery_with(*random_shop(chance))
-            before = state(bakery)
-            found = bakery.make_cheapest_blend()
-            while found != [-33]:
-                made += 1
-                self.check(before, state(bakery), found[1:], found[0])
-                before = state(bakery)
-                found = bakery.make_cheapest_blend()
-            self.assertEqual(state(bakery), before)
+            bins, request = random_shop(chance)
+            found = ask(*shop(bins, request), describe(), *[make_cheapest_blend(), describe()] * 12)[len(bins) + 2:]
+            with self.subTest(bins=bins, request=request):
+                for before, answer, after in zip(found[::2], found[1::2], found[2::2]):
+                    if answer == [-33]:
+                        self.assertEqual(after, before)
+                    else:
+                        made += 1
+                        self.check(bins, before, after, answer[1:], answer[0])
         self.assertGreater(made, 100)
 
     def test_make_blend(self):
-        bakery = bakery_with(BINS, REQUEST)
-        for blend, cost in (([4, 2], 14), ([3, 3], 12), ([3, 3], 12)):
-            before = state(bakery)
-            self.assertEqual(bakery.make_blend(blend), [cost])
-            self.check(before, state(bakery), blend, cost)
-        self.assertEqual(bakery.spent, 38)
+        blends = [[4, 2], [3, 3], [3, 3]]
+        calls = [describe()]
+        for blend in blends:
+            calls += [make_blend(blend), describe()]
+        found = ask(*shop(BINS, REQUEST), *calls)[4:]
+        self.assertEqual(found[1::2], [[14], [12], [12]])
+        for i, blend in enumerate(blends):
+            self.check(BINS, found[2 * i], found[2 * i + 2], blend, found[2 * i + 1][0])
+        self.assertEqual(found[-1][-1], 38)
 
     def test_a_changed_price_leaves_spent_as_it_was(self):
-        bakery = bakery_with(BINS, REQUEST)
-        bakery.make_blend([3, 3])
-        bakery.set_price(0, 9)
-        self.assertEqual(bakery.spent, 12)
-        bakery.make_blend([3, 3])
-        self.assertEqual(bakery.spent, 12 + 30)
+        found = ask(*shop(BINS, REQUEST), make_blend([3, 3]), set_price(0, 9), describe(), make_blend([3, 3]),
+                    describe())[4:]
+        self.assertEqual([found[2][-1], found[4][-1]], [12, 12 + 30])
 
     def test_only_making_a_blend_spends(self):
-        bakery = bakery_with(BINS, REQUEST)
-        bakery.add_flour(0, 5)
-        bakery.empty_bin(1)
-        bakery.cheapest_blend()
-        self.assertEqual(bakery.spent, 0)
+        spent = [answer[-1] for answer in ask(
+            *shop(BINS, REQUEST), add_flour(0, 5), describe(), empty_bin(1), describe(), set_price(0, 1), describe(),
+            cheapest_blend(), describe(), make_blend([2, 4]), describe(), make_cheapest_blend(), describe())[5::2]]
+        self.assertEqual(spent, [0, 0, 0, 0, 0, 6])
 
     def test_the_blend_handed_in_is_not_changed(self):
         blend = [3, 3]
-        bakery_with(BINS, REQUEST).make_blend(blend)
+        bakery = Bakery()
+        for one in BINS:
+            bakery.add_bin(*one)
+        bakery.set_request(*REQUEST)
+        self.assertEqual(bakery.check_blend(blend)[0], 1)
+        self.assertEqual(bakery.make_blend(blend), [12])
         self.assertEqual(blend, [3, 3])
 
 
 class Promise6(unittest.TestCase):
-    """A call that returns an error leaves the instance unchanged, and so does cheapest_blend."""
+    """A call that returns an error leaves the instance unchanged, and so do the operations 6 and 9 to 16."""
 
-    def test_the_whole_instance_after_an_error(self):
-        for name, arguments, code in refused_calls():
-            bakery = bakery_with(FULL_BINS, REQUEST)
-            bakery.make_cheapest_blend()
-            bakery.add_flour(0, 3)
-            bakery.add_flour(1, 3)
-            before = state(bakery)
-            with self.subTest(name=name, arguments=arguments):
-                self.assertEqual(getattr(bakery, name)(*arguments), [code])
-                self.assertEqual(state(bakery), before)
+    def ahead(self):
+        return shop(FULL_BINS, REQUEST) + [make_cheapest_blend(), add_flour(0, 3), add_flour(1, 3)]
 
-    def test_the_later_answers_after_an_error(self):
-        ahead = shop(FULL_BINS, REQUEST)
-        wanted = ask(*ahead, *probe())[len(ahead):]
-        for name, arguments, code in refused_calls():
-            with self.subTest(name=name, arguments=arguments):
-                found = ask(*ahead, CALLS[name](*arguments), *probe())[len(ahead):]
-                self.assertEqual(found, [[code]] + wanted)
+    def check(self, ahead, call, answer=None):
+        """Compare what is described, and what is answered to all the queries, before and after the call."""
+        asked = [describe()] + QUERIES
+        with self.subTest(call=call):
+            found = ask(*ahead, *asked, call, *asked)[len(ahead):]
+            self.assertEqual(found[len(asked) + 1:], found[:len(asked)])
+            if answer is not None:
+                self.assertEqual(found[len(asked)], answer)
+
+    def test_after_an_error(self):
+        for call, code in REFUSED:
+            self.check(self.ahead(), call, [code])
+
+    def test_after_an_error_on_a_new_instance(self):
+        for call in (add_bin(0, 0, 0, 0), add_flour(0, 1), set_price(0, 1), empty_bin(0), set_request(31, 0, 1, 1),
+                     cheapest_blend(), make_cheapest_blend(), make_blend([]), make_blend([1]), check_blend([1]),
+                     extreme_averages(1), extreme_averages(0), cheapest_if_price(0, 1), cheapest_without(0)):
+            with self.subTest(call=call):
+                found = ask([0], describe(), call, describe())
+                self.assertLess(found[2][0], 0)
+                self.assertEqual(found[3], [0, 1, 0, 999, 999, 0])
+                self.assertEqual(found[1], found[3])
 
     def test_where_no_blend_is_valid(self):
-        for name in ("cheapest_blend", "make_cheapest_blend"):
-            for bins in ([], BINS, FULL_BINS):
-                bakery = bakery_with(bins, (6, 301, 302, 7))
-                before = state(bakery)
-                with self.subTest(name=name, bins=bins):
-                    self.assertEqual(getattr(bakery, name)(), [-33])
-                    self.assertEqual(state(bakery), before)
+        for bins, request in ((FULL_BINS, (6, 301, 302, 7)), (BINS, (19, 0, 999, 999)), ([], REQUEST)):
+            for call in (cheapest_blend(), make_cheapest_blend(), cheapest_if_price(0, 4), cheapest_without(0)):
+                self.check(shop(bins, request), call, [-33] if bins or call in ([6], [7]) else [-2])
 
-    def test_cheapest_blend_changes_nothing(self):
-        bakery = bakery_with(FULL_BINS, REQUEST)
-        before = state(bakery)
-        self.assertEqual([bakery.cheapest_blend() for _ in range(3)], [[12, 3, 3, 0, 0]] * 3)
-        self.assertEqual(state(bakery), before)
+    def test_after_each_query(self):
+        for call in QUERIES:
+            self.check(self.ahead(), call)
 
-    def test_the_later_answers_after_cheapest_blend(self):
-        ahead = shop(FULL_BINS, REQUEST)
-        wanted = ask(*ahead, *probe())[len(ahead):]
-        found = ask(*ahead, cheapest_blend(), cheapest_blend(), *probe())[len(ahead):]
-        self.assertEqual(found, wanted[:1] * 2 + wanted)
+    def test_after_each_query_where_it_is_refused(self):
+        for bins, request in (([], REQUEST), (BINS[:1], (30, 999, 999, 0)), ([(0, 1, 0, 1)] * 4, REQUEST)):
+            for call in QUERIES:
+                self.check(shop(bins, request), call)
+
+    def test_the_flour_is_there_after_all_queries(self):
+        found = ask(*self.ahead(), *QUERIES, make_blend([6, 0, 0, 0]), make_cheapest_blend(), describe())
+        self.assertEqual(found[-3:], [[18], [12, 3, 3, 0, 0],
+                                      [4, 1, 300, 5, 3, 5, 200, 9, 1, 0, 100, 1, 2, 30, 999, 999, 99] + list(REQUEST)
+                                      + [42]])
 
     def test_an_error_at_the_start_is_forgotten_by_the_end(self):
         self.assertEqual(last(*shop(BINS, REQUEST), make_blend([9, 9]), make_cheapest_blend()), [12, 3, 3])
